@@ -1,0 +1,1 @@
+"""Floodmark: exact analysis of systems whose quantities change over time."""
