@@ -84,3 +84,8 @@ def fraction(top, low):
 def is_less(first, second):
     """Return True if the first fraction is less than the second one, otherwise False."""
     return first[0] * second[1] < second[0] * first[1]
+
+
+def placed(vector, before, after):
+    """Return the vector with zeros inserted after item 0 and zeros added at the end."""
+    return vector[:1] + [0] * before + vector[1:] + [0] * after

@@ -21,6 +21,37 @@ FUNCTIONS = {
     "floodmark.cone": {
         "dual": "(equations, conditions, size)",
     },
+    "floodmark.poly": {
+        "polyhedron": "(n, conditions, equations=())",
+        "generators": "(region)",
+        "spanned": "(n, points, rays=(), lines=())",
+        "has_point": "(region, point)",
+        "includes": "(region, other)",
+        "meet": "(region, other)",
+        "hull": "(region, other)",
+        "image": "(region, rows)",
+        "extended": "(region, directions)",
+        "product": "(region, other)",
+        "least_value": "(region, condition)",
+    },
+    "floodmark.system": {
+        "check_system": "(system)",
+        "invariant_of": "(system, location)",
+        "directions_of": "(system, location)",
+        "relation_of": "(system, jump)",
+    },
+    "floodmark.runs": {
+        "is_state": "(system, state)",
+        "leads_to": "(system, state, step)",
+        "states_of": "(system, state, run)",
+        "is_initial": "(system, state)",
+    },
+    "floodmark.successors": {
+        "wait_forward": "(system, location, region)",
+        "wait_backward": "(system, location, region)",
+        "jump_forward": "(system, jump, region)",
+        "jump_backward": "(system, jump, region)",
+    },
 }
 
 
