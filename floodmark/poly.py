@@ -113,14 +113,23 @@ def has_point(region, point):
     return True
 
 
-def includes(region, other):
-    """Return True if the polyhedron contains all points of the other one, otherwise False."""
-    points, rays, lines = generators(other)
-    backward = [[-item for item in line] for line in lines]
-    for vector in points + rays + lines + backward:
+def spanning_vectors(region):
+    """Return vectors of which each vector of the cone of a polyhedron is a sum of multiples."""
+    points, rays, lines = generators(region)
+    return points + rays + lines + [[-item for item in line] for line in lines]
+
+
+def contains(region, vectors):
+    """Return True if the cone of the polyhedron contains all of the vectors, otherwise False."""
+    for vector in vectors:
         if not has_point(region, vector):
             return False
     return True
+
+
+def includes(region, other):
+    """Return True if the polyhedron contains all points of the other one, otherwise False."""
+    return contains(region, spanning_vectors(other))
 
 
 def meet(region, other):

@@ -23,10 +23,10 @@ def plain_items(value):
 class ProgramTest(unittest.TestCase):
     """A test case that watches each call of a function of the program."""
 
-    def call(self, function, *arguments):
+    def call(self, function, *arguments, **options):
         """Return what the function returns, after checking what holds for every call."""
         before = copy.deepcopy(arguments)
-        result = function(*arguments)
+        result = function(*arguments, **options)
         self.assertEqual(arguments, before, "an argument was modified")
         lists = lists_in(result)
         places = {id(item) for item in lists}
@@ -37,12 +37,12 @@ class ProgramTest(unittest.TestCase):
         for item in lists:
             item[:] = ["changed"]
         self.assertEqual(arguments, before, "a change of a result changed an argument")
-        self.assertEqual(function(*arguments), expected, "a later call gave something else")
+        self.assertEqual(function(*arguments, **options), expected, "a later call gave something else")
         return expected
 
-    def call_for_integers(self, function, *arguments):
+    def call_for_integers(self, function, *arguments, **options):
         """Return what the function returns, which contains nothing but integers."""
-        result = self.call(function, *arguments)
+        result = self.call(function, *arguments, **options)
         for item in plain_items(result):
             self.assertIs(type(item), int)
         return result

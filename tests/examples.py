@@ -1,6 +1,6 @@
 """Systems for the tests."""
 
-from floodmark.poly import polyhedron
+from floodmark.poly import generators, polyhedron
 from tests.shapes import box, random_point, random_vector, unit
 from tests.slow import as_primitive, both_ways
 
@@ -135,3 +135,55 @@ def random_region(rng, n):
         region = polyhedron(n, rows)
         if region is not None:
             return region
+
+
+def random_update(rng, n, place):
+    """Return conditions that say what the new value of a variable is, often more or less."""
+    row = [rng.randint(-2, 2), *random_vector(rng, n, 1), *unit(n, place, rng.choice([1, 1, 1, 2]))]
+    row[place + 1] = rng.choice([-1, -1, -1, 1])
+    if rng.random() < 0.1:
+        return [row]
+    return both_ways([row])
+
+
+def random_started_system(rng):
+    """Return a valid system with starts, in which searches often have several layers."""
+    n = rng.choice([0, 1, 1, 1, 2, 2, 2, 3])
+    fixed = rng.choice([0, 0, rng.randint(0, n)])
+    many = rng.choice([1, 1, 2, 3])
+    locations = []
+    for _ in range(many):
+        invariant = box([(-rng.randint(2, 8), rng.randint(2, 8)) for _ in range(n)])
+        invariant += [[rng.randint(2, 9), *random_vector(rng, n, 2)] for _ in range(rng.randint(0, 1))]
+        rates = [[1] + [0] * n]
+        if rng.random() < 0.3:
+            rates += [random_rate(rng, n, fixed) for _ in range(rng.randint(1, 2))]
+        locations.append((invariant, rates))
+    jumps = []
+    for _ in range(rng.choice([0, 2, 3, 4, 4])):
+        relation = kept(n, fixed)
+        for place in range(fixed, n):
+            relation += random_update(rng, n, place)
+        if rng.random() < 0.3:
+            relation.append([rng.randint(0, 5), *random_vector(rng, 2 * n, 1)])
+        jumps.append((rng.randrange(many), rng.randrange(many), relation))
+    starts = []
+    for _ in range(rng.choice([0, *[1] * 8, 2, 3])):
+        bounds = [(low, low + rng.choice([0, 0, 1])) for low in [rng.randint(-2, 2) for _ in range(n)]]
+        starts.append((rng.randrange(many), polyhedron(n, box(bounds))))
+    return n, fixed, locations, jumps, starts
+
+
+def random_goals(rng, system, nodes):
+    """Return some small regions, often round a point of one of the nodes."""
+    n = system[0]
+    found = []
+    for _ in range(rng.choice([0, 1, 1, 1, 2])):
+        location, middle = rng.randrange(len(system[2])), [rng.randint(-6, 6) for _ in range(n)]
+        if nodes and rng.random() < 0.7:
+            location, _, region, _, _ = rng.choice(nodes[len(nodes) // 2:])
+            point = rng.choice(generators(region)[0])
+            middle = [item // point[0] for item in point[1:]]
+        bounds = [(low - rng.randint(0, 1), low + rng.randint(0, 1)) for low in middle]
+        found.append((location, polyhedron(n, box(bounds))))
+    return found

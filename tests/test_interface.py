@@ -52,6 +52,25 @@ FUNCTIONS = {
         "jump_forward": "(system, jump, region)",
         "jump_backward": "(system, jump, region)",
     },
+    "floodmark.search": {
+        "find_nodes": "(system, *, fuel)",
+        "search": "(system, goals, *, fuel=10)",
+    },
+    "floodmark.multipliers": {
+        "are_multipliers": "(conditions, target, multipliers)",
+        "find_multipliers": "(conditions, target)",
+    },
+    "floodmark.certificate": {
+        "conditions_of": "(region)",
+        "start_premises": "(system, start)",
+        "wait_premises": "(system, location, piece)",
+        "jump_premises": "(system, jump, piece)",
+        "goal_premises": "(system, goal, piece)",
+        "is_certificate": "(system, goals, certificate)",
+    },
+    "floodmark.maker": {
+        "make_certificate": "(system, goals, nodes)",
+    },
 }
 
 
