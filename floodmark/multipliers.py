@@ -33,13 +33,15 @@ def table_of(conditions, target):
 def row_to_leave(rows, basis, column):
     """Return the index of the row that bounds the column most; of several, the least in the basis."""
     best = None
+    least = None
     for place, row in enumerate(rows):
         if row[column] > 0:
             bound = (row[-1], row[column])
-            if best is None or is_less(bound, best[0]) or (
-                    not is_less(best[0], bound) and basis[place] < basis[best[1]]):
-                best = (bound, place)
-    return best[1]
+            closer = best is None or is_less(bound, least)
+            if closer or (not is_less(least, bound) and basis[place] < basis[best]):
+                best = place
+                least = bound
+    return best
 
 
 def solved_table(rows):
@@ -70,12 +72,14 @@ def find_multipliers(conditions, target):
     solution = solved_table(table_of(conditions, target))
     if solution is None:
         return None
+    rows, basis = solution
+    # What is not in the basis is 0.
     values = [(0, 1)] * (len(conditions) + 1)
-    for row, column in zip(*solution):
+    for row, column in zip(rows, basis):
         if column >= 0:
             values[column] = fraction(row[-1], row[column])
-    values = values[:-1]
+    factors = values[:-1]
     scale = 1
-    for _, low in values:
+    for _, low in factors:
         scale = lcm(scale, low)
-    return scale, [top * (scale // low) for top, low in values]
+    return scale, [top * (scale // low) for top, low in factors]

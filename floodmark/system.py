@@ -40,10 +40,10 @@ def check_location(location, n, fixed):
         require(rate[1:fixed + 1] == [0] * fixed, "a rate changes a parameter")
 
 
-def parameter_conditions(n, fixed):
-    """Return the conditions of a relation which say that no parameter changes."""
+def kept_conditions(n, places):
+    """Return the conditions of a relation which say that the variables at these places stay."""
     found = []
-    for place in range(fixed):
+    for place in places:
         row = [0] * n
         row[place] = 1
         # With the old value in front of it, the row stands for the new value minus the old one.
@@ -51,6 +51,11 @@ def parameter_conditions(n, fixed):
         found.append(rise)
         found.append([-item for item in rise])
     return found
+
+
+def parameter_conditions(n, fixed):
+    """Return the conditions of a relation which say that no parameter changes."""
+    return kept_conditions(n, list(range(fixed)))
 
 
 def check_jump(jump, n, fixed, many):

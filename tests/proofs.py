@@ -155,13 +155,13 @@ LAMP_PROOF = (
     [[(None, [(1, [1, 1])])]],
 )
 
-# Two variables, where 2 x + y <= 6 and x <= 4 in location 0; x rises by 1/2 and by 3/2, and y
-# falls by 1 for the first rate; the last rate is 0. The guard of the jump holds nowhere: x >= 5.
-# From location 1 a jump leads to 2, which no run reaches, and one that keeps all leads back to 1.
+# Two variables, where 2 x + y <= 6 and x <= 4 at location 0. The first and the last rate have one
+# direction, in which x rises and y falls; the third one is 0. Jump 0 to location 2 is never possible,
+# as x had to be at least 5; jump 1 keeps both variables, and jump 2 lowers x and takes 2/3 of y.
 RAMP = (
     2, 0,
     [
-        ([[4, -1, 0], [6, -2, -1]], [[2, 1, -2], [2, 3, 0], [1, 0, 0], [4, 2, -4]]),
+        ([[4, -1, 0], [6, -2, -1]], [[2, 1, -2], [2, 3, 0], [1, 0, 0], [1, 1, -2]]),
         ([], [[1, 1, 1]]),
         ([[-1, 0, 1]], [[1, 0, 0]]),
     ],

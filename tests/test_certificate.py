@@ -14,7 +14,7 @@ from tests.examples import (CLOCK, NO_VARIABLES, STILL, TANK, VALID, random_goal
 from tests.proofs import (LAMP, LAMP_GOALS, LAMP_PROOF, RAMP, RAMP_GOALS, changed, slow_accepts, slow_conditions,
                           slow_goal_premises, slow_jump_premises, slow_start_premises, slow_wait_premises)
 from tests.searches import NO_POINT, all_nodes, at, interval
-from tests.shapes import box, random_conditions, unit
+from tests.shapes import box, random_conditions
 
 EVERYWHERE = interval(None, None)
 
@@ -52,8 +52,8 @@ class PremisesTest(ProgramTest):
             [1, 2, 3, 0, 0, 0],
             [4, -1, 0, 0, 0, 0], [6, -2, -1, 0, 0, 0],
             [0, 0, 0, 1, 0, 0], [0, 0, 0, 0, 1, 0], [0, 0, 0, 0, 0, 1],
-            # The rates [2, 1, -2] and [2, 3, 0] are the directions [0, 1, -2] and [0, 1, 0]; the
-            # third one is 0, and the last one is the first one once more.
+            # The rates are the directions [0, 1, -2] and [0, 1, 0]; the third one is 0, and the
+            # last one has the direction of the first one.
             [4, -1, 0, -1, -1, -1], [6, -2, -1, 0, -2, 0]])
 
     def test_waits_without_directions(self):
@@ -87,8 +87,9 @@ class PremisesTest(ProgramTest):
     def test_equal_lists_are_returned_as_two(self):
         row = [4, -1]
         system = (1, 0, [([row, row], [[1, 1]])], [(0, 0, [[1, 1, 1]] * 2)], [(0, (1, [row], [row]))])
+        goal = (0, (1, [], [row, row]))
         for function, rest in [(start_premises, (0,)), (wait_premises, (0, [row, row])),
-                               (jump_premises, (0, [row, row])), (goal_premises, ((0, (1, [], [row, row])), [row, row]))]:
+                               (jump_premises, (0, [row, row])), (goal_premises, (goal, [row, row]))]:
             with self.subTest(function=function):
                 self.call(function, system, *rest)
 
@@ -108,10 +109,6 @@ class PremisesTest(ProgramTest):
                 self.assertEqual(self.call(jump_premises, system, jump, piece), slow_jump_premises(system, jump, piece))
             self.assertEqual(self.call(goal_premises, system, goal, piece), slow_goal_premises(system, goal, piece))
             self.assertEqual(self.call(conditions_of, goal[1]), slow_conditions(goal[1]))
-
-
-def proved(system, goals):
-    return make_certificate(system, goals, all_nodes(system))
 
 
 class CertificateTest(ProgramTest):
@@ -271,7 +268,8 @@ class CertificateTest(ProgramTest):
         self.check(STILL, [(0, NO_POINT)], ([[[[-1]]]], [], [[(0, [(1, [1])])]], [], [[(None, [(1, [1])])]]), True)
 
     def test_each_change_of_an_example(self):
-        for system, goals, certificate in [(LAMP, LAMP_GOALS, LAMP_PROOF), (RAMP, RAMP_GOALS, proved(RAMP, RAMP_GOALS))]:
+        ramp_proof = make_certificate(RAMP, RAMP_GOALS, all_nodes(RAMP))
+        for system, goals, certificate in [(LAMP, LAMP_GOALS, LAMP_PROOF), (RAMP, RAMP_GOALS, ramp_proof)]:
             self.check(system, goals, certificate, True)
             accepted = 0
             for other in changed(certificate):

@@ -6,6 +6,11 @@ import unittest
 
 CLASSES = {
     "floodmark.errors": ["FloodError", "OutOfRange", "BadSystem", "BadRun", "BadBook", "BadCommand"],
+    "floodmark.desk": ["Desk"],
+}
+
+METHODS = {
+    ("floodmark.desk", "Desk"): {"__init__": "(self, system)", "ask": "(self, command)"},
 }
 
 FUNCTIONS = {
@@ -71,6 +76,17 @@ FUNCTIONS = {
     "floodmark.maker": {
         "make_certificate": "(system, goals, nodes)",
     },
+    "floodmark.parameters": {
+        "critical_values": "(system, goals, *, jumps)",
+        "value_range": "(system, location, condition, *, jumps)",
+    },
+    "floodmark.joint": {
+        "joint_system": "(first, second)",
+    },
+    "floodmark.books": {
+        "write_book": "(certificate)",
+        "read_book": "(numbers, *, n)",
+    },
 }
 
 
@@ -92,6 +108,14 @@ class InterfaceTest(unittest.TestCase):
                     found = getattr(importlib.import_module(module), name)
                     self.assertTrue(inspect.isclass(found))
                     self.assertEqual(found.__module__, module)
+
+    def test_methods_stand_in_their_classes(self):
+        for (module, name), methods in METHODS.items():
+            for method, parameters in methods.items():
+                with self.subTest(name=name, method=method):
+                    found = vars(getattr(importlib.import_module(module), name))[method]
+                    self.assertTrue(inspect.isfunction(found))
+                    self.assertEqual(str(inspect.signature(found)), parameters)
 
 
 if __name__ == "__main__":

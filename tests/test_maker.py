@@ -193,7 +193,8 @@ class MakerTest(ProgramTest):
             expected = []
             for jump, (source, target, _) in enumerate(jumps):
                 after = [[wide(condition, n, 0) for condition in piece] for piece in pieces[target]]
-                expected.append([slow_index(slow_jump_premises(system, jump, piece), after) for piece in pieces[source]])
+                premises = [slow_jump_premises(system, jump, piece) for piece in pieces[source]]
+                expected.append([slow_index(rows, after) for rows in premises])
             self.assertEqual(indexes(certificate[3]), expected)
 
     def test_many_nodes_rates_and_conditions(self):

@@ -140,8 +140,10 @@ class NodesTest(ProgramTest):
                   [(0, at(0)), (1, at(1)), (0, at(2))])
         layers = [
             [(0, at(0), at(0), None, None), (1, at(1), at(1), None, None), (0, at(2), at(2), None, None)],
-            [(1, at(10), at(10), 0, 0), (1, at(20), at(20), 0, 2), (1, at(12), at(12), 2, 0), (1, at(22), at(22), 2, 2)],
-            [(0, at(11), at(11), 3, 1), (0, at(21), at(21), 4, 1), (0, at(13), at(13), 5, 1), (0, at(23), at(23), 6, 1)],
+            [(1, at(10), at(10), 0, 0), (1, at(20), at(20), 0, 2),
+             (1, at(12), at(12), 2, 0), (1, at(22), at(22), 2, 2)],
+            [(0, at(11), at(11), 3, 1), (0, at(21), at(21), 4, 1),
+             (0, at(13), at(13), 5, 1), (0, at(23), at(23), 6, 1)],
         ]
         # Location 1 with the value 1 leads to location 0 with the value 2, which is a start.
         self.check(system, 2, layers, False)
