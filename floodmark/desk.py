@@ -14,6 +14,10 @@ from floodmark.vectors import fraction
 MOST_DIGITS = 7
 MOST_JUMPS = 20
 
+# Python refuses to write a number of thousands of digits at once, so it is written in parts.
+PART_DIGITS = 64
+PART = 10 ** 64
+
 # What follows each first word: a location L, a number of jumps K, a condition C.
 FORMS = {"goal": "LC", "clear": "", "search": "K", "path": "K", "book": "K", "values": "K", "range": "LKC"}
 
@@ -55,10 +59,22 @@ def numbers_in(system, words):
     return numbers
 
 
+def integer_text(number):
+    """Return the decimal digits of an integer of any length, with a minus sign if it is negative."""
+    left = abs(number)
+    parts = []
+    while left >= PART:
+        left, part = divmod(left, PART)
+        parts.append(str(part).zfill(PART_DIGITS))
+    parts.append(str(left))
+    sign = "-" if number < 0 else ""
+    return sign + "".join(parts[::-1])
+
+
 def fraction_text(value):
     """Return a fraction as an integer or as TOP/LOW."""
     top, low = value
-    return str(top) if low == 1 else f"{top}/{low}"
+    return integer_text(top) if low == 1 else f"{integer_text(top)}/{integer_text(low)}"
 
 
 def bound_text(value):
